@@ -5,6 +5,8 @@ import (
 	"strconv"
 	"strings"
 	"testing"
+
+	"loop.example/g01309/impl"
 )
 
 // Numbers by their bits, for the tests of all chapters.
@@ -95,6 +97,10 @@ func tell(results ...any) string {
 			for _, y := range x {
 				out.WriteString(tell(y))
 			}
+		case impl.Rod:
+			out.WriteString(tell(x.Wides, x.Eases, x.Holds, x.Warms))
+		case impl.End:
+			out.WriteString(tell(x.Kind, x.Warm, x.Ease))
 		default:
 			panic("a type that tell does not know")
 		}
