@@ -101,6 +101,12 @@ func tell(results ...any) string {
 			out.WriteString(tell(x.Wides, x.Eases, x.Holds, x.Warms))
 		case impl.End:
 			out.WriteString(tell(x.Kind, x.Warm, x.Ease))
+		case impl.Stuff:
+			out.WriteString(tell(x.Solid, x.Fluid, x.EaseSolid, x.EaseFluid, x.Point, x.Latent))
+		case impl.Bar:
+			out.WriteString(tell(x.Stuff, x.Step, x.Heats))
+		case impl.Cup:
+			out.WriteString(tell(x.Mass, x.Heat))
 		default:
 			panic("a type that tell does not know")
 		}

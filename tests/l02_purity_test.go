@@ -47,8 +47,9 @@ func outcomesOfRods(r, other impl.Rod, left, right impl.End, x, y float32, n int
 	}
 }
 
-// checkOutcome checks what is so for each function of chapter 2: what fails
-// returns nothing else, and what does not returns finite numbers and valid rods.
+// checkOutcome checks what is so for each function of the chapters 2 and 3: what
+// fails returns nothing else, and what does not returns finite numbers, and
+// valid rods, bars and cups.
 func checkOutcome(t *testing.T, o outcome) {
 	t.Helper()
 	for _, value := range o.values[:len(o.values)-1] {
@@ -64,6 +65,10 @@ func checkOutcome(t *testing.T, o outcome) {
 			good = !slices.ContainsFunc(x, func(y complex64) bool { return !impl.IsFiniteComplex(y) })
 		case impl.Rod:
 			good = impl.ValidRod(x)
+		case impl.Bar:
+			good = impl.ValidBar(x)
+		case impl.Cup:
+			good = impl.ValidCup(x)
 		}
 		if !o.ok() {
 			good = reflect.ValueOf(value).IsZero()
@@ -197,6 +202,8 @@ func listsOf(values ...any) [][]float32 {
 		switch x := value.(type) {
 		case impl.Rod:
 			lists = append(lists, x.Wides, x.Eases, x.Holds, x.Warms)
+		case impl.Bar:
+			lists = append(lists, x.Heats)
 		case []float32:
 			lists = append(lists, x)
 		}
@@ -204,33 +211,40 @@ func listsOf(values ...any) [][]float32 {
 	return lists
 }
 
+// wantNewLists checks that no two lists that a call returns share memory, and overwrites all of them.
+func wantNewLists(t *testing.T, name string, call func() []any) {
+	t.Helper()
+	for place := range listsOf(call()...) {
+		// Each time anew, because the lists are overwritten.
+		lists := listsOf(call()...)
+		before := slices.Clone(lists)
+		for k := range before {
+			before[k] = slices.Clone(lists[k])
+		}
+		list := append(lists[place], -77)
+		for k := range list[:cap(list)] {
+			list[:cap(list)][k] = -77
+		}
+		room := lists[place][:cap(lists[place])]
+		for k := range room {
+			room[k] = -77
+		}
+		for k := range lists {
+			if k != place && tell(lists[k]) != tell(before[k]) {
+				t.Errorf("%s: the lists %d and %d share memory", name, place, k)
+			}
+		}
+	}
+}
+
 func TestP1ResultsOfRodsAreNew(t *testing.T) {
 	for _, ends := range [][2]impl.End{{held(4), inAir(2, 3)}, {held(4), shut()}, {shut(), held(3)}, {shut(), shut()}} {
 		for _, n := range []int64{0, 1, 2} {
 			one, sameOne := rodWithRoom(rodWith(1, 2, 5))
 			two, sameTwo := rodWithRoom(rodWith(3, 4, 6))
-			for i, o := range outcomesOfRods(one, two, ends[0], ends[1], 0.25, 2, n) {
-				for place := range listsOf(o.values...) {
-					// Each time anew, because the lists are overwritten.
-					lists := listsOf(outcomesOfRods(one, two, ends[0], ends[1], 0.25, 2, n)[i].values...)
-					before := slices.Clone(lists)
-					for k := range before {
-						before[k] = slices.Clone(lists[k])
-					}
-					list := append(lists[place], -77)
-					for k := range list[:cap(list)] {
-						list[:cap(list)][k] = -77
-					}
-					room := lists[place][:cap(lists[place])]
-					for k := range room {
-						room[k] = -77
-					}
-					for k := range lists {
-						if k != place && tell(lists[k]) != tell(before[k]) {
-							t.Errorf("%s: the lists %d and %d share memory", o.name, place, k)
-						}
-					}
-				}
+			calls := func() []outcome { return outcomesOfRods(one, two, ends[0], ends[1], 0.25, 2, n) }
+			for i, o := range calls() {
+				wantNewLists(t, o.name, func() []any { return calls()[i].values })
 				wantBool(t, o.name+" returns new memory", sameOne() && sameTwo(), true)
 			}
 		}
