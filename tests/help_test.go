@@ -97,6 +97,10 @@ func tell(results ...any) string {
 			for _, y := range x {
 				out.WriteString(tell(y))
 			}
+		case []bool:
+			for _, y := range x {
+				out.WriteString(tell(y))
+			}
 		case impl.Rod:
 			out.WriteString(tell(x.Wides, x.Eases, x.Holds, x.Warms))
 		case impl.End:
@@ -107,6 +111,8 @@ func tell(results ...any) string {
 			out.WriteString(tell(x.Stuff, x.Step, x.Heats))
 		case impl.Cup:
 			out.WriteString(tell(x.Mass, x.Heat))
+		case impl.Plate:
+			out.WriteString(tell(x.Wide, x.High, x.Warms, x.Eases, x.Gains, x.Held))
 		default:
 			panic("a type that tell does not know")
 		}

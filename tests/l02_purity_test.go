@@ -47,9 +47,9 @@ func outcomesOfRods(r, other impl.Rod, left, right impl.End, x, y float32, n int
 	}
 }
 
-// checkOutcome checks what is so for each function of the chapters 2 and 3: what
-// fails returns nothing else, and what does not returns finite numbers, and
-// valid rods, bars and cups.
+// checkOutcome checks what is so for each function of the chapters 2, 3 and 4:
+// what fails returns nothing else, and what does not returns finite numbers, and
+// valid rods, bars, cups and plates.
 func checkOutcome(t *testing.T, o outcome) {
 	t.Helper()
 	for _, value := range o.values[:len(o.values)-1] {
@@ -69,6 +69,8 @@ func checkOutcome(t *testing.T, o outcome) {
 			good = impl.ValidBar(x)
 		case impl.Cup:
 			good = impl.ValidCup(x)
+		case impl.Plate:
+			good = impl.ValidPlate(x)
 		}
 		if !o.ok() {
 			good = reflect.ValueOf(value).IsZero()
@@ -204,6 +206,8 @@ func listsOf(values ...any) [][]float32 {
 			lists = append(lists, x.Wides, x.Eases, x.Holds, x.Warms)
 		case impl.Bar:
 			lists = append(lists, x.Heats)
+		case impl.Plate:
+			lists = append(lists, x.Warms, x.Eases, x.Gains)
 		case []float32:
 			lists = append(lists, x)
 		}
