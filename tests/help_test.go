@@ -113,6 +113,12 @@ func tell(results ...any) string {
 			out.WriteString(tell(x.Mass, x.Heat))
 		case impl.Plate:
 			out.WriteString(tell(x.Wide, x.High, x.Warms, x.Eases, x.Gains, x.Held))
+		case impl.Face:
+			out.WriteString(tell(x.Wide, x.Shine, x.Warm))
+		case []impl.Face:
+			for _, y := range x {
+				out.WriteString(tell(y))
+			}
 		default:
 			panic("a type that tell does not know")
 		}

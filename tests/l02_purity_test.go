@@ -47,8 +47,8 @@ func outcomesOfRods(r, other impl.Rod, left, right impl.End, x, y float32, n int
 	}
 }
 
-// checkOutcome checks what is so for each function of the chapters 2, 3 and 4:
-// what fails returns nothing else, and what does not returns finite numbers, and
+// checkOutcome checks what is so for each function of the chapters 2 to 5: what
+// fails returns nothing else, and what does not returns finite numbers, and
 // valid rods, bars, cups and plates.
 func checkOutcome(t *testing.T, o outcome) {
 	t.Helper()
