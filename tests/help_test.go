@@ -119,6 +119,12 @@ func tell(results ...any) string {
 			for _, y := range x {
 				out.WriteString(tell(y))
 			}
+		case impl.House:
+			out.WriteString(houseText(x))
+		case impl.Heater:
+			out.WriteString(heatersText([]impl.Heater{x}))
+		case []impl.Heater:
+			out.WriteString(heatersText(x))
 		default:
 			panic("a type that tell does not know")
 		}

@@ -47,9 +47,9 @@ func outcomesOfRods(r, other impl.Rod, left, right impl.End, x, y float32, n int
 	}
 }
 
-// checkOutcome checks what is so for each function of the chapters 2 to 5: what
+// checkOutcome checks what is so for each function of the chapters 2 to 6: what
 // fails returns nothing else, and what does not returns finite numbers, and
-// valid rods, bars, cups and plates.
+// valid rods, bars, cups, plates, houses and heaters.
 func checkOutcome(t *testing.T, o outcome) {
 	t.Helper()
 	for _, value := range o.values[:len(o.values)-1] {
@@ -71,6 +71,12 @@ func checkOutcome(t *testing.T, o outcome) {
 			good = impl.ValidCup(x)
 		case impl.Plate:
 			good = impl.ValidPlate(x)
+		case impl.House:
+			good = impl.ValidHouse(x)
+		case impl.Heater:
+			good = impl.ValidHeater(x)
+		case []impl.Heater:
+			good = !slices.ContainsFunc(x, func(y impl.Heater) bool { return !impl.ValidHeater(y) })
 		}
 		if !o.ok() {
 			good = reflect.ValueOf(value).IsZero()
@@ -208,6 +214,8 @@ func listsOf(values ...any) [][]float32 {
 			lists = append(lists, x.Heats)
 		case impl.Plate:
 			lists = append(lists, x.Warms, x.Eases, x.Gains)
+		case impl.House:
+			lists = append(lists, x.Warms, x.Holds, x.Leaks)
 		case []float32:
 			lists = append(lists, x)
 		}

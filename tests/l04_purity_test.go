@@ -140,7 +140,7 @@ func TestP1EmptyListsOfPlatesAreNil(t *testing.T) {
 	wantBool(t, "SamePlate", impl.SamePlate(empty, impl.Plate{}), true)
 }
 
-// overwrite changes all flags and indices that a call has returned, and what is behind them.
+// overwrite changes all flags, indices, links and heaters that a call has returned, and what is behind them.
 func overwrite(values []any) {
 	for _, value := range values {
 		switch x := value.(type) {
@@ -148,6 +148,16 @@ func overwrite(values []any) {
 			flags := x.Held[:cap(x.Held)]
 			for i := range flags {
 				flags[i] = !flags[i]
+			}
+		case impl.House:
+			links := x.Links[:cap(x.Links)]
+			for i := range links {
+				links[i] = impl.Link{A: -77}
+			}
+		case []impl.Heater:
+			heaters := x[:cap(x)]
+			for i := range heaters {
+				heaters[i] = impl.Heater{Room: -77}
 			}
 		case []int64:
 			cells := x[:cap(x)]
