@@ -125,6 +125,12 @@ func tell(results ...any) string {
 			out.WriteString(heatersText([]impl.Heater{x}))
 		case []impl.Heater:
 			out.WriteString(heatersText(x))
+		case impl.Guess:
+			out.WriteString(guessText(x))
+		case impl.Track:
+			out.WriteString(strconv.Quote(tracksText([]impl.Track{x})))
+		case []impl.Track:
+			out.WriteString(strconv.Quote(tracksText(x)))
 		default:
 			panic("a type that tell does not know")
 		}

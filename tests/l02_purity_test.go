@@ -47,9 +47,9 @@ func outcomesOfRods(r, other impl.Rod, left, right impl.End, x, y float32, n int
 	}
 }
 
-// checkOutcome checks what is so for each function of the chapters 2 to 6: what
+// checkOutcome checks what is so for each function of the chapters 2 to 7: what
 // fails returns nothing else, and what does not returns finite numbers, and
-// valid rods, bars, cups, plates, houses and heaters.
+// valid rods, bars, cups, plates, houses, heaters, guesses and tracks.
 func checkOutcome(t *testing.T, o outcome) {
 	t.Helper()
 	for _, value := range o.values[:len(o.values)-1] {
@@ -77,6 +77,12 @@ func checkOutcome(t *testing.T, o outcome) {
 			good = impl.ValidHeater(x)
 		case []impl.Heater:
 			good = !slices.ContainsFunc(x, func(y impl.Heater) bool { return !impl.ValidHeater(y) })
+		case impl.Guess:
+			good = impl.IsFinite(x.Mean) && impl.IsFinite(x.Spread) && x.Spread > 0
+		case impl.Track:
+			good = impl.ValidTrack(x)
+		case []impl.Track:
+			good = len(x) <= 8 && !slices.ContainsFunc(x, func(y impl.Track) bool { return !impl.ValidTrack(y) })
 		}
 		if !o.ok() {
 			good = reflect.ValueOf(value).IsZero()

@@ -140,7 +140,7 @@ func TestP1EmptyListsOfPlatesAreNil(t *testing.T) {
 	wantBool(t, "SamePlate", impl.SamePlate(empty, impl.Plate{}), true)
 }
 
-// overwrite changes all flags, indices, links and heaters that a call has returned, and what is behind them.
+// overwrite changes all flags, indices, links, heaters and tracks that a call has returned, and what is behind them.
 func overwrite(values []any) {
 	for _, value := range values {
 		switch x := value.(type) {
@@ -158,6 +158,12 @@ func overwrite(values []any) {
 			heaters := x[:cap(x)]
 			for i := range heaters {
 				heaters[i] = impl.Heater{Room: -77}
+			}
+		case impl.Track:
+			overwrite([]any{x.Hundreds})
+		case []impl.Track:
+			for _, t := range x[:cap(x)] {
+				overwrite([]any{t})
 			}
 		case []int64:
 			cells := x[:cap(x)]
