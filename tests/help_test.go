@@ -131,6 +131,12 @@ func tell(results ...any) string {
 			out.WriteString(strconv.Quote(tracksText([]impl.Track{x})))
 		case []impl.Track:
 			out.WriteString(strconv.Quote(tracksText(x)))
+		case impl.Desk:
+			out.WriteString(tell(x.Rod, x.Left, x.Right, x.Bar, x.Faces, x.House))
+		case []string:
+			for _, y := range x {
+				out.WriteString(tell(y))
+			}
 		default:
 			panic("a type that tell does not know")
 		}

@@ -47,9 +47,10 @@ func outcomesOfRods(r, other impl.Rod, left, right impl.End, x, y float32, n int
 	}
 }
 
-// checkOutcome checks what is so for each function of the chapters 2 to 7: what
+// checkOutcome checks what is so for each function of the chapters 2 to 8: what
 // fails returns nothing else, and what does not returns finite numbers, and
-// valid rods, bars, cups, plates, houses, heaters, guesses and tracks.
+// valid rods, ends, bars, cups, plates, faces, houses, heaters, guesses, tracks
+// and desks.
 func checkOutcome(t *testing.T, o outcome) {
 	t.Helper()
 	for _, value := range o.values[:len(o.values)-1] {
@@ -83,6 +84,12 @@ func checkOutcome(t *testing.T, o outcome) {
 			good = impl.ValidTrack(x)
 		case []impl.Track:
 			good = len(x) <= 8 && !slices.ContainsFunc(x, func(y impl.Track) bool { return !impl.ValidTrack(y) })
+		case impl.End:
+			good = impl.ValidEnd(x)
+		case []impl.Face:
+			good = impl.AreFaces(x)
+		case impl.Desk:
+			good = impl.ValidDesk(x)
 		}
 		if !o.ok() {
 			good = reflect.ValueOf(value).IsZero()
@@ -222,6 +229,8 @@ func listsOf(values ...any) [][]float32 {
 			lists = append(lists, x.Warms, x.Eases, x.Gains)
 		case impl.House:
 			lists = append(lists, x.Warms, x.Holds, x.Leaks)
+		case impl.Desk:
+			lists = append(lists, listsOf(x.Rod, x.Bar, x.House)...)
 		case []float32:
 			lists = append(lists, x)
 		}

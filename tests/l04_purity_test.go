@@ -140,7 +140,8 @@ func TestP1EmptyListsOfPlatesAreNil(t *testing.T) {
 	wantBool(t, "SamePlate", impl.SamePlate(empty, impl.Plate{}), true)
 }
 
-// overwrite changes all flags, indices, links, heaters and tracks that a call has returned, and what is behind them.
+// overwrite changes all flags, indices, links, heaters, tracks, faces and lines
+// that a call has returned, and what is behind them.
 func overwrite(values []any) {
 	for _, value := range values {
 		switch x := value.(type) {
@@ -164,6 +165,18 @@ func overwrite(values []any) {
 		case []impl.Track:
 			for _, t := range x[:cap(x)] {
 				overwrite([]any{t})
+			}
+		case impl.Desk:
+			overwrite([]any{x.Faces, x.House})
+		case []impl.Face:
+			faces := x[:cap(x)]
+			for i := range faces {
+				faces[i] = impl.Face{Wide: -77}
+			}
+		case []string:
+			lines := x[:cap(x)]
+			for i := range lines {
+				lines[i] = "changed"
 			}
 		case []int64:
 			cells := x[:cap(x)]
